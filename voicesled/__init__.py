@@ -1,0 +1,1 @@
+"""Voices led: three voices above a bass with figures."""
